@@ -102,14 +102,29 @@ func (t *Tree) Depth() (int, error) {
 	return len(way), err
 }
 
-// goThrough hands on each node, from the left to the right and a branch ahead of what is below it, with the last key by which the way goes to it and with how many levels there are from it on. No leaf is read for its own sake: where they lie, the depth says.
+// isMetAgain tells if a page is among those that were met, and puts it there.
+func isMetAgain(met map[int]struct{}, c child) bool {
+	id := pageOf(c)
+	_, again := met[id]
+	if id != 0 {
+		met[id] = struct{}{}
+	}
+	return again
+}
+
+// goThrough hands on each node, from the left to the right and a branch ahead of what is below it, with the last key by which the way goes to it and with how many levels there are from it on. No leaf is read for its own sake: where they lie, the depth says. To a page that was met before it does not go again: where branches share their children, there are more ways than anybody can go.
 func (t *Tree) goThrough(meet func(c child, from string, levels int)) error {
 	depth, err := t.Depth()
 	if depth == 0 {
 		return err
 	}
+	met := map[int]struct{}{}
 	var visit func(c child, from string, levels int) bool
 	visit = func(c child, from string, levels int) bool {
+		if isMetAgain(met, c) {
+			err = api.ErrCorrupt
+			return false
+		}
 		meet(c, from, levels)
 		if levels == 1 {
 			return true

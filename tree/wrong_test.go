@@ -387,6 +387,38 @@ func TestWrong_Lists(t *testing.T) {
 	}
 }
 
+// shared is a root and, on each level below it, two nodes that are the children of both above them: with each level there are twice as many ways.
+func shared(t *testing.T, levels int) *tree.Tree {
+	t.Helper()
+	sheets := []api.Sheet{branchSheet(t, 2, 4, api.Link{Key: "m", Child: 5})}
+	below := 2*levels + 2
+	for id := 4; id < below-2; id++ {
+		child := id - id%2 + 2
+		sheets = append(sheets, branchSheet(t, id, child, api.Link{Key: "m", Child: child + 1}))
+	}
+	sheets = append(sheets, leafSheet(t, below-2, pair("a", 0, 100)), leafSheet(t, below-1, pair("n", 0, 100)))
+	return tree.Open(image(t, below, sheets...), api.Meta{Root: 2})
+}
+
+// Pages and Leaves end, however many ways there are: for layer 13 hands them trees that may be anybody's.
+func TestWrong_MoreWaysThanAnybodyCanGo(t *testing.T) {
+	for _, levels := range []int{3, 4, 8, 64} {
+		r := shared(t, levels)
+		if n, err := r.Depth(); n != levels || err != nil {
+			t.Errorf("Depth = %d, %v, want %d", n, err, levels)
+		}
+		if l, err := r.Pages(); l != nil || err != api.ErrCorrupt {
+			t.Errorf("%d levels: Pages = %v, %v, want ErrCorrupt", levels, l, err)
+		}
+		if l, err := r.Leaves(); l != nil || err != api.ErrCorrupt {
+			t.Errorf("%d levels: Leaves = %d, %v, want ErrCorrupt", levels, len(l), err)
+		}
+	}
+	if l, err := shared(t, 2).Pages(); !slices.Equal(l, []int{2, 4, 5}) || err != nil {
+		t.Errorf("Pages = %v, %v", l, err)
+	}
+}
+
 // Nor is anything of a Plan of them; but what can't be written is not planned.
 func TestWrong_APlanOfPairsOutOfOrder(t *testing.T) {
 	d := image(t, 10, branchSheet(t, 4, 2, api.Link{Key: "m", Child: 3}), leafSheet(t, 2, pair("x", 0, 100)), leafSheet(t, 3, pair("a", 0, 100), pair("n", 0, 100)))
