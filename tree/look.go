@@ -18,7 +18,7 @@ func within(l []api.Pair, from, to string) []api.Pair {
 	return l[start:max(start, end)]
 }
 
-// Pairs is the first pairs at or above from and below to (to empty: no bound), no more than limit.
+// Pairs is the first pairs at or above from and below to (to empty: no bound), no more than limit. To a page that was met before it does not go again.
 func (t *Tree) Pairs(from, to string, limit int) ([]api.Pair, error) {
 	if limit < 0 {
 		return nil, api.ErrArg
@@ -28,8 +28,13 @@ func (t *Tree) Pairs(from, to string, limit int) ([]api.Pair, error) {
 	}
 	var pairs []api.Pair
 	var fault error
+	met := map[int]struct{}{}
 	var gather func(c child, depth int) bool
 	gather = func(c child, depth int) bool {
+		if isMetAgain(met, c) {
+			fault = api.ErrCorrupt
+			return false
+		}
 		n, err := t.readAt(c, depth)
 		if err != nil {
 			fault = err

@@ -400,7 +400,7 @@ func shared(t *testing.T, levels int) *tree.Tree {
 	return tree.Open(image(t, below, sheets...), api.Meta{Root: 2})
 }
 
-// Pages and Leaves end, however many ways there are: for layer 13 hands them trees that may be anybody's.
+// Pages, Leaves and Pairs end, however many ways there are: for layer 13 hands them trees that may be anybody's, and layer 14 asks for pairs where another store may have written.
 func TestWrong_MoreWaysThanAnybodyCanGo(t *testing.T) {
 	for _, levels := range []int{3, 4, 8, 64} {
 		r := shared(t, levels)
@@ -412,6 +412,11 @@ func TestWrong_MoreWaysThanAnybodyCanGo(t *testing.T) {
 		}
 		if l, err := r.Leaves(); l != nil || err != api.ErrCorrupt {
 			t.Errorf("%d levels: Leaves = %d, %v, want ErrCorrupt", levels, len(l), err)
+		}
+		for _, from := range []string{"", "b"} {
+			if l, err := r.Pairs(from, "", 1<<62); l != nil || err != api.ErrCorrupt {
+				t.Errorf("%d levels: Pairs from %q = %d, %v, want ErrCorrupt", levels, from, len(l), err)
+			}
 		}
 	}
 	if l, err := shared(t, 2).Pages(); !slices.Equal(l, []int{2, 4, 5}) || err != nil {
